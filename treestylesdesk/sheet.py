@@ -1,0 +1,47 @@
+"""The sheet of rules. Each call answers a list: its number, then its row."""
+
+from treestylesdesk.numbering import least_free
+from treestylesdesk.reader import SelectorFault, read_selector
+
+MOST_BYTES = 256
+MOST_RULES = 64
+
+
+class Rule:
+    """A rule; chains are those of its selector, as the reader gives them."""
+
+    def __init__(self, property_number, value, strong, chains):
+        self.property_number = property_number
+        self.value = value
+        self.strong = strong
+        self.chains = chains
+
+
+class Sheet:
+    """The rules by their numbers."""
+
+    def __init__(self):
+        # The keys stand in the order in which the rules came: the last one is the latest,
+        # as a number that is free again is put in anew.
+        self.rules = {}
+
+    def rule(self, property_number, value, strong, text):
+        """A new rule, the latest: its number."""
+        if len(text) > MOST_BYTES:
+            return [-2]
+        try:
+            chains = read_selector(text)
+        except SelectorFault as e:
+            return [-1, e.place]
+        if len(self.rules) == MOST_RULES:
+            return [-3]
+        number = least_free(self.rules, 1)
+        self.rules[number] = Rule(property_number, value, strong != 0, chains)
+        return [number]
+
+    def unrule(self, number):
+        """Takes away a rule."""
+        if number not in self.rules:
+            return [-1]
+        self.rules.pop(number)
+        return [0]
