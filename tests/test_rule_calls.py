@@ -3,6 +3,7 @@
 import unittest
 
 from calls import GREATEST, ask, bytes_of, numbers, rule, unrule
+from treestylesdesk.desk import Document, answer_call
 from treestylesdesk.sheet import Sheet
 
 
@@ -24,6 +25,12 @@ class RuleCall(unittest.TestCase):
         self.assertEqual(seen(sheet), [
             (1, 5, 6, False, 2), (2, GREATEST, GREATEST, True, 1), (3, 0, 0, True, 1)])
 
+    def test_the_desk_hands_property_value_strong_on_in_this_order(self):
+        document = Document()
+        self.assertEqual(answer_call(document, 5, [7, 8, 0], bytes_of("*")), [1])
+        self.assertEqual(answer_call(document, 5, [0, 8, 9], bytes_of("*")), [2])
+        self.assertEqual(seen(document.sheet), [(1, 7, 8, False, 1), (2, 0, 8, True, 1)])
+
     def test_the_same_rule_twice_is_two_rules(self):
         self.assertEqual(numbers(rule("1", 5, 6), rule("1", 5, 6), unrule(1), unrule(2)), [1, 2, 0, 0])
 
@@ -33,9 +40,9 @@ class RuleCall(unittest.TestCase):
         self.assertEqual(text, bytes_of("1>2:not(.3)"))
 
     def test_256_bytes_are_the_most(self):
-        self.assertEqual(ask(rule("." + "1:last" * 1 + ":first" * 41 + ".12")), [(1, [])])
-        self.assertEqual(len("." + "1:last" * 1 + ":first" * 41 + ".12"), 256)
-        self.assertEqual(ask(rule("." + "1:last" * 1 + ":first" * 41 + ".123")), [(-2, [])])
+        self.assertEqual(ask(rule(".1:last" + ":first" * 41 + ".12")), [(1, [])])
+        self.assertEqual(len(".1:last" + ":first" * 41 + ".12"), 256)
+        self.assertEqual(ask(rule(".1:last" + ":first" * 41 + ".123")), [(-2, [])])
 
     def test_a_fault_in_256_and_in_257_bytes(self):
         self.assertEqual(ask(rule("1>" * 128)), [(-1, [256])])

@@ -19,7 +19,7 @@ def marks(node, class_numbers, on=1):
 
 class NewCall(unittest.TestCase):
     def test_a_document_at_first(self):
-        document = Document(0)
+        document = Document()
         self.assertEqual(seen(document.tree), {0: (0, None, [], [])})
         self.assertEqual(document.sheet.rules, {})
         self.assertEqual(numbers(drop(0), drop(1), unrule(1), add(0), rule("*")), [-2, -1, -1, 1, 1])
@@ -38,7 +38,7 @@ class NewCall(unittest.TestCase):
 
     def test_the_root_has_the_new_tag(self):
         for tag in (0, 1, GREATEST):
-            document = Document(3)
+            document = Document()
             document.tree.add(0, 4)
             document.tree.mark(0, 4, 1)
             document.sheet.rule(0, 0, 0, [42])

@@ -8,17 +8,16 @@ ADD = 2
 DROP = 3
 MARK = 4
 RULE = 5
-UNRULE = 6
 
 # How many whole numbers each call has, ahead of the text that a rule has too.
 NUMBERS_OF_CALL = {1: 1, 2: 2, 3: 1, 4: 3, 5: 3, 6: 1}
 
 
 class Document:
-    """A tree and the sheet for it."""
+    """A tree and the sheet for it; at first the root alone, with tag 0, and no rules."""
 
-    def __init__(self, tag):
-        self.tree = Tree(tag)
+    def __init__(self):
+        self.tree = Tree(0)
         self.sheet = Sheet()
 
     def new(self, tag):
@@ -40,6 +39,7 @@ def answer_call(document, call, numbers, text):
         return document.tree.mark(numbers[0], numbers[1], numbers[2])
     if call == RULE:
         return document.sheet.rule(numbers[0], numbers[1], numbers[2], text)
+    # Only unrule is left: a number that no call has was found out when its numbers were counted.
     return document.sheet.unrule(numbers[0])
 
 
@@ -50,7 +50,7 @@ def written(answer):
 
 def answers(calls):
     """What all the calls in the list answer, one behind another."""
-    document = Document(0)
+    document = Document()
     told = []
     place = 0
     while place < len(calls):
