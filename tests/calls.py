@@ -3,6 +3,8 @@
 from treestylesdesk.desk import answers
 
 GREATEST = 4294967295
+# The least property that is handed down.
+DOWN = 2147483648
 
 
 def new(tag):
@@ -28,6 +30,27 @@ def rule(text, property_number=0, value=0, strong=0):
 
 def unrule(number):
     return [6, number]
+
+
+def value(node, property_number=0):
+    return [7, node, property_number]
+
+
+def matches(number, node):
+    return [8, number, node]
+
+
+def select(text):
+    data = bytes_of(text)
+    return [9, len(data)] + data
+
+
+def weight(number):
+    return [10, number]
+
+
+def rivals(node, property_number=0):
+    return [11, node, property_number]
 
 
 def bytes_of(text):
@@ -59,3 +82,22 @@ def numbers(*calls):
     pairs = ask(*calls)
     assert all(row == [] for number, row in pairs), pairs
     return [number for number, row in pairs]
+
+
+def last(*calls):
+    """The (number, row) of the last call."""
+    return ask(*calls)[-1]
+
+
+def nodes_of(*calls):
+    """The nodes that the last call, a select, tells; their count is looked at."""
+    number, row = last(*calls)
+    assert number == len(row), (number, row)
+    return row
+
+
+def rivals_of(*calls):
+    """The (rule, tests, tags) that the last call, a rivals, tells; their count is looked at."""
+    number, row = last(*calls)
+    assert len(row) == 3 * number, (number, row)
+    return [tuple(row[k:k + 3]) for k in range(0, len(row), 3)]

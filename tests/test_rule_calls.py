@@ -9,7 +9,7 @@ from treestylesdesk.sheet import Sheet
 
 def seen(sheet):
     """All that a sheet holds, in the order in which the rules came."""
-    return [(number, held.property_number, held.value, held.strong, len(held.chains))
+    return [(number, held.property_number, held.value, held.strong, len(held.selector.kinds))
             for number, held in sheet.rules.items()]
 
 

@@ -1,5 +1,6 @@
 """The desk: takes a list of calls on one new document, and answers them."""
 
+from treestylesdesk.asks import ask_matches, ask_rivals, ask_select, ask_value, ask_weight
 from treestylesdesk.sheet import Sheet
 from treestylesdesk.tree import Tree
 
@@ -8,9 +9,14 @@ ADD = 2
 DROP = 3
 MARK = 4
 RULE = 5
+UNRULE = 6
+VALUE = 7
+MATCHES = 8
+SELECT = 9
+WEIGHT = 10
 
-# How many whole numbers each call has, ahead of the text that a rule has too.
-NUMBERS_OF_CALL = {1: 1, 2: 2, 3: 1, 4: 3, 5: 3, 6: 1}
+# How many whole numbers each call has, ahead of the text that rule and select have too.
+NUMBERS_OF_CALL = {1: 1, 2: 2, 3: 1, 4: 3, 5: 3, 6: 1, 7: 2, 8: 2, 9: 0, 10: 1, 11: 2}
 
 
 class Document:
@@ -27,8 +33,8 @@ class Document:
         return [0]
 
 
-def answer_call(document, call, numbers, text):
-    """What one call answers: its number, then its row."""
+def answer_change(document, call, numbers, text):
+    """What one of the calls new to unrule answers."""
     if call == NEW:
         return document.new(numbers[0])
     if call == ADD:
@@ -39,8 +45,27 @@ def answer_call(document, call, numbers, text):
         return document.tree.mark(numbers[0], numbers[1], numbers[2])
     if call == RULE:
         return document.sheet.rule(numbers[0], numbers[1], numbers[2], text)
-    # Only unrule is left: a number that no call has was found out when its numbers were counted.
     return document.sheet.unrule(numbers[0])
+
+
+def answer_question(document, call, numbers, text):
+    """What one of the calls value to rivals answers."""
+    if call == VALUE:
+        return ask_value(document.tree, document.sheet, numbers[0], numbers[1])
+    if call == MATCHES:
+        return ask_matches(document.tree, document.sheet, numbers[0], numbers[1])
+    if call == SELECT:
+        return ask_select(document.tree, text)
+    if call == WEIGHT:
+        return ask_weight(document.sheet, numbers[0])
+    return ask_rivals(document.tree, document.sheet, numbers[0], numbers[1])
+
+
+def answer_call(document, call, numbers, text):
+    """What one call answers: its number, then its row."""
+    if call <= UNRULE:
+        return answer_change(document, call, numbers, text)
+    return answer_question(document, call, numbers, text)
 
 
 def written(answer):
@@ -59,7 +84,7 @@ def answers(calls):
         place = begin + NUMBERS_OF_CALL[call]
         numbers = calls[begin:place]
         text = []
-        if call == RULE:
+        if call == RULE or call == SELECT:
             begin = place + 1
             place = begin + calls[begin - 1]
             text = calls[begin:place]

@@ -1,20 +1,20 @@
 """The sheet of rules. Each call answers a list: its number, then its row."""
 
 from treestylesdesk.numbering import least_free
-from treestylesdesk.reader import SelectorFault, read_selector
+from treestylesdesk.reader import SelectorFault
+from treestylesdesk.selector import TextTooLong, selector_of
 
-MOST_BYTES = 256
 MOST_RULES = 64
 
 
 class Rule:
-    """A rule; chains are those of its selector, as the reader gives them."""
+    """A rule: nodes that match its selector have this value for this property."""
 
-    def __init__(self, property_number, value, strong, chains):
+    def __init__(self, property_number, value, strong, selector):
         self.property_number = property_number
         self.value = value
         self.strong = strong
-        self.chains = chains
+        self.selector = selector
 
 
 class Sheet:
@@ -27,16 +27,16 @@ class Sheet:
 
     def rule(self, property_number, value, strong, text):
         """A new rule, the latest: its number."""
-        if len(text) > MOST_BYTES:
-            return [-2]
         try:
-            chains = read_selector(text)
+            selector = selector_of(text)
+        except TextTooLong:
+            return [-2]
         except SelectorFault as e:
             return [-1, e.place]
         if len(self.rules) == MOST_RULES:
             return [-3]
         number = least_free(self.rules, 1)
-        self.rules[number] = Rule(property_number, value, strong != 0, chains)
+        self.rules[number] = Rule(property_number, value, strong != 0, selector)
         return [number]
 
     def unrule(self, number):

@@ -59,3 +59,36 @@ class Tree:
             return [-2]
         classes[class_number] = True
         return [0]
+
+    def look(self, number):
+        """All that a kind can ask of a node: its tag, its classes, which of "first", "last", "empty" it is."""
+        node = self.nodes[number]
+        row = [number]
+        if node.parent is not None:
+            row = self.nodes[node.parent].children
+        states = []
+        if row[0] == number:
+            states.append("first")
+        if row[-1] == number:
+            states.append("last")
+        if len(node.children) == 0:
+            states.append("empty")
+        return (node.tag, tuple(sorted(node.classes)), tuple(states))
+
+    def in_order(self):
+        """The nodes in the document's order, each as (number, parent, the child right ahead of it, look).
+
+        None stands where there is no parent or no child ahead.
+        """
+        rows = []
+        waiting = [(ROOT, None)]
+        while len(waiting) > 0:
+            pair = waiting.pop()
+            number = pair[0]
+            node = self.nodes[number]
+            rows.append((number, node.parent, pair[1], self.look(number)))
+            # The last child is put in first, as what was put in last is taken out first.
+            children = list(zip([None] + node.children, node.children))
+            for ahead, child in reversed(children):
+                waiting.append((child, ahead))
+        return rows
